@@ -1,0 +1,1 @@
+"""The seams of a hull, welded in order."""
