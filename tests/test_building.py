@@ -46,6 +46,8 @@ class BeforeBegin(unittest.TestCase):
     others = (
         ("part",), ("seam", 0, 1, 1), ("weld", 0), ("cut", 0), ("strain", 0, 1),
         ("order",), ("least",), ("sofar",), ("locked",), ("many",),
+        ("hang", 0, 0), ("way", 0, 0), ("ring", 0), ("pieces",), ("together",),
+        ("holds",), ("next",), ("worth", 0), ("look", 0), ("told",),
     )
 
     def test_each_by_itself(self):
@@ -53,14 +55,17 @@ class BeforeBegin(unittest.TestCase):
             self.assertEqual(ask(call), [[-11]], call)
 
     def test_one_behind_another(self):
-        self.assertEqual(ask(*self.others), [[-11]] * 10)
+        self.assertEqual(ask(*self.others), [[-11]] * 20)
 
     def test_behind_a_refused_begin(self):
         for call in self.others:
             self.assertEqual(ask(("begin", 8), call), [[-22], [-11]], call)
 
     def test_comes_ahead_of_other_refusals(self):
-        for call in (("seam", BIGGEST, BIGGEST, 0), ("weld", BIGGEST), ("cut", BIGGEST), ("strain", BIGGEST, 0)):
+        for call in (
+            ("seam", BIGGEST, BIGGEST, 0), ("weld", BIGGEST), ("cut", BIGGEST), ("strain", BIGGEST, 0),
+            ("hang", BIGGEST, 0), ("way", 0, BIGGEST), ("ring", BIGGEST), ("worth", BIGGEST), ("look", BIGGEST),
+        ):
             self.assertEqual(ask(call), [[-11]], call)
 
     def test_changes_nothing(self):

@@ -4,43 +4,9 @@ import itertools
 import random
 import unittest
 
-from tests.helper import BIGGEST, ask, hull, last, welds
-
-
-def hang_together(seams, x, y):
-    """Whether one comes from x to y by these seams, walking from part to part."""
-    reached = {x}
-    grown = True
-    while grown:
-        near = {b for a, b, s in seams if a in reached} | {a for a, b, s in seams if b in reached}
-        grown = not near <= reached
-        reached |= near
-    return y in reached
-
-
-def count_pieces(parts, seams):
-    return len({tuple(y for y in range(parts) if hang_together(seams, x, y)) for x in range(parts)})
-
-
-def small_hulls():
-    """Hulls of few parts, each with some seams welded already."""
-    for parts in (2, 3):
-        pairs = list(itertools.combinations(range(parts), 2))
-        for count in range(4):
-            for ends in itertools.product(pairs, repeat=count):
-                for strains in itertools.product((1, 2, 3), repeat=count):
-                    seams = [(x, y, s) for (x, y), s in zip(ends, strains)]
-                    yield parts, seams, []
-    source = random.Random(20)
-    for turn in range(60):
-        parts = source.randint(2, 5)
-        seams = []
-        for k in range(source.randint(3, 6)):
-            x, y = source.sample(range(parts), 2)
-            seams.append((x, y, source.choice((1, 2, 2, 5, 7, 1000))))
-        numbers = list(range(len(seams)))
-        source.shuffle(numbers)
-        yield parts, seams, numbers[:source.randint(max(0, len(seams) - 5), 3)]
+from tests.helper import (
+    BIGGEST, ask, count_pieces, first_way, hang_together, hull, last, small_hulls, welds,
+)
 
 
 class EveryOrder(unittest.TestCase):
@@ -105,7 +71,7 @@ class Plain:
     def rest(self):
         return [k for k in range(len(self.seams)) if k not in self.welded]
 
-    def told(self):
+    def in_order(self):
         rest = self.rest()
         return [k for s in range(1000, 0, -1) for k in rest if self.seams[k][2] == s]
 
@@ -161,26 +127,88 @@ class Plain:
         return [was]
 
     def order(self):
-        return [len(self.rest())] + self.told()
+        return [len(self.rest())] + self.in_order()
 
     def least(self):
-        return [sum(self.seams[k][2] for k in self.locked_in(self.told())), self.so_far()]
+        return [sum(self.seams[k][2] for k in self.locked_in(self.in_order())), self.so_far()]
 
     def sofar(self):
         return [self.so_far()]
 
     def locked(self):
-        found = self.locked_in(self.told())
+        found = self.locked_in(self.in_order())
         return [len(found)] + found
 
     def many(self):
         return [len(self.locked_in(self.rest()))]
+
+    def now(self):
+        return {k: self.seams[k] for k in self.welded}
+
+    def hang(self, x, y):
+        if max(x, y) >= self.parts:
+            return [-2]
+        return [int(hang_together(self.now().values(), x, y))]
+
+    def way(self, x, y):
+        if max(x, y) >= self.parts:
+            return [-2]
+        way = first_way(self.now(), x, y)
+        return [-33] if way is None else [len(way)] + way
+
+    def ring(self, k):
+        if k >= len(self.seams):
+            return [-2]
+        if k in self.welded:
+            return [-17]
+        return self.way(*self.seams[k][:2])
+
+    def pieces(self):
+        return [count_pieces(self.parts, self.now().values())]
+
+    def together(self):
+        return [count_pieces(self.parts, self.seams)]
+
+    def holds(self):
+        found = []
+        for k in sorted(self.welded):
+            others = [seam for other, seam in self.now().items() if other != k]
+            if not hang_together(others, *self.seams[k][:2]):
+                found.append(k)
+        return [len(found)] + found
+
+    def next(self):
+        if not self.rest():
+            return [-6]
+        first = self.in_order()[0]
+        return [first, len(self.locked_in([first]))]
+
+    def worth(self, k):
+        if k >= len(self.seams):
+            return [-2]
+        if k in self.welded:
+            return [-17]
+        now = self.least()[0]
+        self.weld(k)
+        then = self.least()[0]
+        own = self.seams[k][2] * self.cut(k)[0]
+        return [own + then - now]
+
+    def look(self, k):
+        if k >= len(self.seams):
+            return [-2]
+        x, y, s = self.seams[k]
+        return [s, x, y, int(k in self.welded), int(self.welded.get(k, False))]
+
+    def told(self):
+        return [self.parts, len(self.seams), len(self.welded)]
 
 
 def some_call(source):
     name = source.choice(
         ("seam",) * 5 + ("weld",) * 6 + ("cut",) * 3 + ("strain",) * 2
         + ("part", "order", "least", "sofar", "locked", "many")
+        + ("hang", "way", "way", "ring", "ring", "pieces", "together", "holds", "next", "worth", "look", "told")
     )
     part = source.choice((2, 4, 7, 8))
     strain = source.choice((0, 1, 2, 2, 5, 9, 500, 1000, 1001, BIGGEST))
@@ -191,7 +219,9 @@ def some_call(source):
         return (name, source.randrange(part), source.randrange(part), strain)
     if name == "strain":
         return (name, number, strain)
-    if name in ("weld", "cut"):
+    if name in ("hang", "way"):
+        return (name, source.randrange(part), source.randrange(part))
+    if name in ("weld", "cut", "ring", "worth", "look"):
         return (name, number)
     return (name,)
 
